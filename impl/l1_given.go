@@ -52,6 +52,8 @@ type Fault struct {
 // jointKind is a kind of joint. The kinds are types of their own, so that whoever asks what is true of one kind alone names that kind.
 type jointKind interface {
 	ends() int
+	// over is to which ends one comes over the joint from one of its ends, none at a buffer.
+	over(end int) []int
 }
 
 type (
@@ -65,6 +67,17 @@ func (bufferKind) ends() int { return 1 }
 func (plainKind) ends() int  { return 2 }
 func (switchKind) ends() int { return 3 }
 func (crossKind) ends() int  { return 4 }
+
+func (bufferKind) over(end int) []int { return nil }
+func (plainKind) over(end int) []int  { return []int{1 - end} }
+func (crossKind) over(end int) []int  { return []int{end ^ 1} }
+
+func (switchKind) over(end int) []int {
+	if end == 0 {
+		return []int{1, 2}
+	}
+	return []int{0}
+}
 
 // kindOf is nil for a number that is no kind.
 func kindOf(number int) jointKind {
