@@ -16,6 +16,8 @@ type span struct {
 func spansOf(v reflect.Value, where string) []span {
 	var out []span
 	switch v.Kind() {
+	case reflect.Interface:
+		return spansOf(v.Elem(), where)
 	case reflect.Slice:
 		if bytes := uintptr(v.Cap()) * v.Type().Elem().Size(); bytes > 0 {
 			out = append(out, span{v.Pointer(), v.Pointer() + bytes, where})
