@@ -183,7 +183,7 @@ func TestWhereSomebodyIsNothingIsFree(t *testing.T) {
 	})
 }
 
-// By the words of chapter 9 a train that has passed a signal may go on to the next one, and by those of chapter 5 a way is used when somebody is in its first section: between the two it can be taken back under its train, which P8 does not have. These are the two ways in which that comes about; what the program does in them is what the chapters say.
+// By the words of chapter 9 a train that has passed a signal may go on to the next one, and by those of chapter 5 a way is used when somebody is in its first section: between the two it can be taken back under its train, which P8 and P10 do not have. These are the ways in which that comes about; what the program does in them is what the chapters say.
 func TestWaysTakenBackUnderTheirTrain(t *testing.T) {
 	n := netOf(t, "a20 b5 c20 d20 e20", "end a0\nplain a1 b0\nplain b1 c0\nplain c1 d0\nplain d1 e0\nend e1")
 	s := siteOf(t, n, "a8+ d15+ d5- e5-", "a8+/4 e5-/4")
@@ -202,6 +202,16 @@ func TestWaysTakenBackUnderTheirTrain(t *testing.T) {
 	wantTicks(t, "it is fast, and is never seen in the first section", s, where, []boxTick{
 		{"ask 0, speed 0 20", "0 0", "c13+ 4, e5- 4 | ..#.# / s+ - - - | "},
 		{"back 0, ask 3, speed 1 20", "0 0 0", "d13+ 4, d5- 4 | ...#. / - - - u+:x | 0 1"},
+	})
+	s = crossover(t)
+	s.Hold = 1
+	wantTicks(t, "a switch that was stuck turns under it", s, func(x impl.Shot) string {
+		return trainText(s.Net, x.Box.Trains[0]) + " | " + numbersText(x.Box.Lies) + " | " + strconv.FormatBool(impl.Sits(s.Net, x.Box.Lies, x.Box.Trains[0]))
+	}, []boxTick{
+		{"ask 0, speed 0 1", "0 0", "a16+ 4 | 0 0 1 0 0 1 0 0 | true"},
+		{"back 0", "0", "a17+ 4 | 0 0 1 0 0 1 0 0 | true"},
+		{"stick 0, hand 0 2, speed 0 25", "0 0 0", "c2+ 4 b+ | 0 0 1 0 0 1 0 0 | true"},
+		{"free 0, speed 0 0", "0 0", "c2+ 4 b+ | 0 0 0 0 0 1 0 0 | false"},
 	})
 }
 
